@@ -1,0 +1,111 @@
+"""The package's own files keep to the small part of Python: what can be seen from their form alone.
+
+This also stands for point 1's last row: without an import from outside and without Python's own
+names beyond those listed, there is no clock, no chance and no file.
+"""
+
+import ast
+import builtins
+import pathlib
+import re
+import unittest
+
+PACKAGE = pathlib.Path(__file__).resolve().parent.parent / "quotefind"
+
+STATEMENTS = (
+    ast.Module, ast.FunctionDef, ast.ClassDef, ast.ImportFrom, ast.Assign, ast.AugAssign, ast.If, ast.While,
+    ast.For, ast.Return, ast.Break, ast.Continue, ast.Pass, ast.Raise, ast.Try, ast.ExceptHandler, ast.Expr,
+)
+EXPRESSIONS = (
+    ast.Constant, ast.List, ast.Tuple, ast.Dict, ast.Set, ast.BinOp, ast.UnaryOp, ast.BoolOp, ast.Compare,
+    ast.IfExp, ast.Call, ast.Attribute, ast.Subscript, ast.Slice, ast.ListComp, ast.comprehension,
+    ast.JoinedStr, ast.FormattedValue, ast.Name, ast.Lambda,
+)
+SMALL_PARTS = (
+    ast.operator, ast.unaryop, ast.boolop, ast.cmpop, ast.expr_context, ast.arguments, ast.arg, ast.keyword,
+    ast.alias,
+)
+OUTSIDE = (ast.Div, ast.MatMult)
+
+BUILT_IN = set("""
+    len range enumerate zip min max sum abs sorted reversed int str bool list tuple dict set frozenset
+    isinstance ord repr any all divmod Exception ValueError TypeError KeyError IndexError LookupError
+    ZeroDivisionError ArithmeticError OverflowError RuntimeError NotImplementedError AttributeError
+    StopIteration
+""".split())
+DOUBLE_UNDERSCORE = {"__init__", "__eq__", "__repr__", "__str__", "__len__"}
+WORDS_THAT_STAND_NOWHERE = re.compile(
+    r"\b(type|typing|typing_extensions|enum|Enum|IntEnum|StrEnum|Flag|IntFlag|Generic|Protocol|ABC|ABCMeta"
+    r"|namedtuple|NamedTuple|TypedDict|TYPE_CHECKING|abstractmethod)\b|dataclass|overload|contextmanager"
+)
+
+
+def source_files():
+    return sorted(PACKAGE.glob("*.py"))
+
+
+def each_part():
+    for path in source_files():
+        for node in ast.walk(ast.parse(path.read_text(encoding="utf-8"))):
+            yield f"{path.name}:{getattr(node, 'lineno', 1)}", node
+
+
+def names_in(node):
+    """The names that a part of the program bears or speaks of."""
+    found = [getattr(node, field, None) for field in ("id", "attr", "name", "arg", "asname")]
+    return [name for name in found if isinstance(name, str)]
+
+
+class Language(unittest.TestCase):
+
+    def test_only_plain_files(self):
+        names = [path.name for path in PACKAGE.iterdir() if path.name != "__pycache__"]
+        self.assertIn("__init__.py", names)
+        for name in names:
+            self.assertRegex(name, r"\A([a-z][a-z0-9_]*|__init__|__main__)\.py\Z")
+
+    def test_signs_and_sizes(self):
+        for path in source_files():
+            text = path.read_text(encoding="utf-8")
+            self.assertRegex(text, r"\A[ -~\n]*\Z", path.name)
+            self.assertLessEqual(len(text.splitlines()), 400, path.name)
+            for line in text.splitlines():
+                self.assertLessEqual(len(line), 120, path.name)
+            self.assertIsNone(WORDS_THAT_STAND_NOWHERE.search(text), path.name)
+
+    def test_functions_are_short_and_plain(self):
+        for place, node in each_part():
+            if isinstance(node, ast.FunctionDef):
+                self.assertLessEqual(node.end_lineno - node.lineno + 1, 40, place)
+                self.assertEqual(node.decorator_list, [], place)
+                self.assertIsNone(node.args.vararg, place)
+                self.assertIsNone(node.args.kwarg, place)
+                self.assertEqual(node.args.kwonlyargs + node.args.posonlyargs, [], place)
+
+    def test_imports_from_the_package_alone(self):
+        for place, node in each_part():
+            if isinstance(node, ast.ImportFrom):
+                self.assertEqual(node.level, 0, place)
+                self.assertRegex(node.module, r"\Aquotefind\.[a-z_]+\Z", place)
+                self.assertNotIn("*", [alias.name for alias in node.names], place)
+
+    def test_only_the_forms_listed(self):
+        for place, node in each_part():
+            self.assertIsInstance(node, STATEMENTS + EXPRESSIONS + SMALL_PARTS, place)
+            self.assertNotIsInstance(node, OUTSIDE, place)
+            if isinstance(node, ast.Constant):
+                self.assertNotIsInstance(node.value, (float, complex, bytes), place)
+                self.assertNotIn("%", str(node.value), place)
+
+    def test_names(self):
+        for place, node in each_part():
+            for name in names_in(node):
+                if name not in DOUBLE_UNDERSCORE:
+                    self.assertRegex(name, r"\A[A-Za-z][A-Za-z0-9_]*\Z", place)
+            if isinstance(node, ast.Name) and hasattr(builtins, node.id):
+                self.assertIn(node.id, BUILT_IN, place)
+                self.assertIsInstance(node.ctx, ast.Load, place)
+
+
+if __name__ == "__main__":
+    unittest.main()
