@@ -33,6 +33,11 @@ BUILT_IN = set("""
     ZeroDivisionError ArithmeticError OverflowError RuntimeError NotImplementedError AttributeError
     StopIteration
 """.split())
+PLAIN_METHODS = set("""
+    append clear copy count endswith extend find get index insert isalnum isalpha isdigit islower isspace
+    isupper items join keys ljust lower lstrip partition pop remove replace reverse rfind rjust rpartition
+    rsplit rstrip setdefault split splitlines startswith strip update upper values zfill bit_length
+""".split())
 DOUBLE_UNDERSCORE = {"__init__", "__eq__", "__repr__", "__str__", "__len__"}
 WORDS_THAT_STAND_NOWHERE = re.compile(
     r"\b(type|typing|typing_extensions|enum|Enum|IntEnum|StrEnum|Flag|IntFlag|Generic|Protocol|ABC|ABCMeta"
@@ -54,6 +59,17 @@ def names_in(node):
     """The names that a part of the program bears or speaks of."""
     found = [getattr(node, field, None) for field in ("id", "attr", "name", "arg", "asname")]
     return [name for name in found if isinstance(name, str)]
+
+
+def own_methods():
+    classes = [node for place, node in each_part() if isinstance(node, ast.ClassDef)]
+    return {part.name for node in classes for part in node.body if isinstance(part, ast.FunctionDef)}
+
+
+def own_values():
+    """The names under which the objects of the package keep something."""
+    return {node.attr for place, node in each_part()
+            if isinstance(node, ast.Attribute) and isinstance(node.ctx, ast.Store)}
 
 
 class Language(unittest.TestCase):
@@ -105,6 +121,46 @@ class Language(unittest.TestCase):
             if isinstance(node, ast.Name) and hasattr(builtins, node.id):
                 self.assertIn(node.id, BUILT_IN, place)
                 self.assertIsInstance(node.ctx, ast.Load, place)
+
+    def test_methods_are_the_listed_ones_or_own_ones(self):
+        known = PLAIN_METHODS | own_methods()
+        for place, node in each_part():
+            if isinstance(node, ast.Call) and isinstance(node.func, ast.Attribute):
+                self.assertIn(node.func.attr, known, place)
+
+    def test_no_name_is_a_method_and_a_value(self):
+        self.assertEqual(own_methods() & own_values(), set())
+
+    def test_one_walk_and_at_most_one_choice_in_a_comprehension(self):
+        for place, node in each_part():
+            if isinstance(node, ast.ListComp):
+                self.assertEqual(len(node.generators), 1, place)
+                self.assertLessEqual(len(node.generators[0].ifs), 1, place)
+
+    def test_one_target_in_an_assignment(self):
+        for place, node in each_part():
+            if isinstance(node, ast.Assign):
+                self.assertEqual(len(node.targets), 1, place)
+                self.assertNotIsInstance(node.targets[0], (ast.Tuple, ast.List), place)
+
+    def test_is_stands_beside_none_true_and_false_alone(self):
+        for place, node in each_part():
+            if isinstance(node, ast.Compare) and isinstance(node.ops[0], (ast.Is, ast.IsNot)):
+                beside = node.comparators[0]
+                self.assertIsInstance(beside, ast.Constant, place)
+                self.assertIn(beside.value, (None, True, False), place)
+
+    def test_no_two_files_draw_from_one_another(self):
+        drawn = {}
+        for path in source_files():
+            tree = ast.parse(path.read_text(encoding="utf-8"))
+            modules = [node.module for node in ast.walk(tree) if isinstance(node, ast.ImportFrom)]
+            drawn["quotefind." + path.stem] = set(modules)
+        while drawn:
+            ready = [name for name, modules in drawn.items() if not modules & set(drawn)]
+            self.assertNotEqual(ready, [], sorted(drawn))
+            for name in ready:
+                drawn.pop(name)
 
 
 if __name__ == "__main__":
