@@ -13,3 +13,11 @@ class Entry:
         self.row = list(row)
         self.pairs = list(pairs)
         self.left = left
+
+
+def entry_of(number, older, newer, finding):
+    return Entry(number, older, newer, finding.worth, finding.way, finding.row, finding.pairs)
+
+
+def copied(entry):
+    return Entry(entry.number, entry.older, entry.newer, entry.worth, entry.way, entry.row, entry.pairs, entry.left)

@@ -20,6 +20,11 @@ def is_word(text):
     return all([is_small_letter(sign) for sign in text])
 
 
+def check_words(texts):
+    if not all([is_word(text) for text in texts]):
+        raise BadWord(f"a word has 1 to {WORD_MOST} small letters")
+
+
 def small_letter_or_blank(sign):
     if is_small_letter(sign):
         return sign

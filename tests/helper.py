@@ -1,7 +1,11 @@
 """What several tests share."""
 
 import itertools
+import types
 
+from quotefind.errors import (
+    BadBook, BadName, BadSearch, BadWord, BadYear, Full, HasLeft, NameTaken, NoBook, NoFinding, TooMany,
+)
 from quotefind.terms import Terms
 
 # Every sign that a text may have: from the blank to ~, without the sign of per cent.
@@ -17,6 +21,11 @@ def refusal_of(call, *args, **kwargs):
     except Exception as error:
         return type(error)
     return None
+
+
+def words_from(low, high):
+    """The words of these numbers, both with them."""
+    return [word_of(number) for number in range(low, high + 1)]
 
 
 def word_of(number):
@@ -68,6 +77,28 @@ SMALL_TERMS = [
     Terms(3, 3, 3, 3, near=[("a", "b", 1), ("b", "a", 2), ("b", "c", 3)]),
     Terms(4, 2, 2, 4, near=[("a", "c", 4), ("c", "a", 4), ("b", "c", 8)]),
 ]
+
+
+def entry_fields(entry):
+    return {
+        "number": entry.number, "older": entry.older, "newer": entry.newer, "worth": entry.worth,
+        "way": list(entry.way), "row": list(entry.row), "pairs": list(entry.pairs), "left": entry.left,
+    }
+
+
+def state_of(library, searches):
+    """All that a library tells."""
+    names = library.books()
+    return {
+        "books": names,
+        "words": [library.words_in(name) for name in names],
+        "found": library.found(),
+        "entries": [entry_fields(library.entry(number)) for number in range(1, library.found() + 1)],
+        "listed": library.listed(),
+        "between": [library.between(name, other) for name in names for other in names],
+        "follow": [library.follow(number) for number in library.listed()],
+        "search": [library.search(told, within) for told, within in searches],
+    }
 
 
 # What follows is made straight of the document's words, without the program's own ways and tables.
@@ -179,3 +210,157 @@ def rounds_by_pairs(first, second, terms):
                          and ending[pair] - gap_price(terms, pair, later) + starting[later] == worth)
         rounds.append((worth, sorted(sorted(group) for group in join_all(links)), ending))
         pairs = {pair: pairs[pair] for pair in pairs if pair not in best}
+
+
+def is_answered(told, word, terms):
+    """Point 25."""
+    return told == word or any({x, y} == {told, word} for x, y, price in terms.near)
+
+
+def holds(words, low, high, told, terms):
+    places = range(low, high + 1)
+    return all(any(is_answered(text, words[place], terms) for place in places) for text in told)
+
+
+def stretches_one_by_one(words, told, within, terms):
+    """Point 26, all stretches gone through one by one."""
+    found = []
+    for low in range(len(words)):
+        for high in range(low, min(low + within, len(words))):
+            if holds(words, low, high, told, terms):
+                shorter = holds(words, low + 1, high, told, terms) or holds(words, low, high - 1, told, terms)
+                if not shorter:
+                    found.append((low, high))
+    return found
+
+
+def is_plain_word(text):
+    """Point 4."""
+    return 1 <= len(text) <= 12 and all(sign in LETTERS for sign in text)
+
+
+def places_from(places):
+    return set(range(min(places), max(places) + 1))
+
+
+class Account:
+    """A library that is kept by the document's points alone, without the program's own library."""
+
+    def __init__(self, terms):
+        self.terms = terms
+        self.there = {}
+        self.entries = []
+
+    def age(self, name):
+        """Point 19."""
+        return (self.there[name][0], name)
+
+    def books(self):
+        return sorted(self.there, key=self.age)
+
+    def refuse_coming(self, name, year, words):
+        """Point 18, but for the last refusal."""
+        faults = [
+            (BadName, not is_plain_word(name)),
+            (BadYear, not 0 <= year <= 9999),
+            (BadBook, len(words) > 40),
+            (BadWord, not all(is_plain_word(word) for word in words)),
+            (NameTaken, name in self.there),
+            (Full, len(self.there) == 12),
+        ]
+        for refusal, is_due in faults:
+            if is_due:
+                raise refusal()
+
+    def come(self, name, year, words):
+        """Points 18 and 20."""
+        self.refuse_coming(name, year, words)
+        made = []
+        others = self.books()
+        there = dict(self.there)
+        there[name] = (year, list(words))
+        for other in others:
+            older, newer = sorted([name, other], key=lambda one: (there[one][0], one))
+            rounds = rounds_by_pairs(there[older][1], there[newer][1], self.terms)
+            findings = [(worth, pairs, ending) for worth, groups, ending in rounds for pairs in groups]
+            if len(findings) > 20:
+                raise TooMany()
+            for worth, pairs, ending in findings:
+                made.append(types.SimpleNamespace(
+                    number=len(self.entries) + len(made) + 1, older=older, newer=newer, worth=worth, pairs=pairs,
+                    ending=ending, words=(there[older][1], there[newer][1]), left=False))
+        self.there = there
+        self.entries.extend(made)
+        return [entry.number for entry in made]
+
+    def refuse_without(self, name):
+        if name not in self.there:
+            raise NoBook()
+
+    def leave(self, name):
+        """Point 21."""
+        self.refuse_without(name)
+        marked = [entry for entry in self.entries if not entry.left and name in (entry.older, entry.newer)]
+        for entry in marked:
+            entry.left = True
+        self.there.pop(name)
+        return [entry.number for entry in marked]
+
+    def entry(self, number):
+        if not 1 <= number <= len(self.entries):
+            raise NoFinding()
+        return self.entries[number - 1]
+
+    def listed(self):
+        """Point 22."""
+        standing = [entry for entry in self.entries if not entry.left]
+        return [entry.number for entry in sorted(standing, key=lambda entry: (-entry.worth, entry.number))]
+
+    def between(self, name, other):
+        self.refuse_without(name)
+        self.refuse_without(other)
+        both = [number for number in self.listed()
+                if {self.entry(number).older, self.entry(number).newer} == {name, other}]
+        return both
+
+    def goes_on(self, g, f):
+        """Point 23: whether the entry g goes on from the entry f."""
+        if f.left or g.left or g.newer != f.older:
+            return False
+        length = places_from([i for i, j in f.pairs])
+        shared = length & places_from([j for i, j in g.pairs])
+        return 100 * len(shared) >= self.terms.part * len(length)
+
+    def chains(self, number):
+        """Every list of entries that begins with that number and in which each goes on from the one before."""
+        last = self.entry(number)
+        found = [[last]]
+        for entry in self.entries:
+            if self.goes_on(entry, last):
+                found.extend([last] + chain for chain in self.chains(entry.number))
+        return found
+
+    def is_chain(self, number, told):
+        """Point 24: whether what `follow` told can stand."""
+        if self.entry(number).left:
+            raise HasLeft()
+        chains = self.chains(number)
+        oldest = min(self.age(chain[-1].older) for chain in chains)
+        ends = {tuple(entry.number for entry in chain): self.age(chain[-1].older) for chain in chains}
+        return ends.get(tuple(told)) == oldest
+
+    def is_way(self, number, way):
+        """Point 15: whether the way that an entry tells can stand."""
+        entry = self.entry(number)
+        rises = all(lies_before(pair, later) for pair, later in zip(way, way[1:]))
+        inside = len(way) > 0 and set(way) <= set(entry.pairs)
+        return rises and inside and worth_by_sum(*entry.words, self.terms, way) == entry.worth
+
+    def search(self, told, within):
+        """Point 27."""
+        if not 1 <= len(told) <= 6 or len(set(told)) < len(told) or not 1 <= within <= 40:
+            raise BadSearch()
+        if not all(is_plain_word(text) for text in told):
+            raise BadWord()
+        return [(name, low, high) for name in self.books()
+                for low, high in stretches_one_by_one(self.there[name][1], told, within, self.terms)]

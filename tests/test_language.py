@@ -150,6 +150,44 @@ class Language(unittest.TestCase):
                 self.assertIsInstance(beside, ast.Constant, place)
                 self.assertIn(beside.value, (None, True, False), place)
 
+    def test_no_parameter_and_no_local_bears_a_name_that_is_used_otherwise(self):
+        for path in source_files():
+            tree = ast.parse(path.read_text(encoding="utf-8"))
+            imported = {alias.name for node in tree.body if isinstance(node, ast.ImportFrom) for alias in node.names}
+            classes = {node.name for node in tree.body if isinstance(node, ast.ClassDef)}
+            for node in ast.walk(tree):
+                bound = isinstance(node, ast.Name) and isinstance(node.ctx, ast.Store)
+                if bound or isinstance(node, ast.arg):
+                    name = names_in(node)[0]
+                    self.assertNotIn(name, imported | classes | set(dir(builtins)), path.name)
+
+    def test_plain_names_alone_in_f_strings(self):
+        for place, node in each_part():
+            if isinstance(node, ast.FormattedValue):
+                self.assertIsInstance(node.value, ast.Name, place)
+                self.assertIsNone(node.format_spec, place)
+
+    def test_lists_and_dicts_of_a_files_top_hold_none(self):
+        for path in source_files():
+            for node in ast.parse(path.read_text(encoding="utf-8")).body:
+                if isinstance(node, ast.Assign):
+                    held = [part for part in ast.walk(node.value) if isinstance(part, (ast.List, ast.Dict, ast.Set))]
+                    self.assertLessEqual(len(held), 1, path.name)
+
+    def test_errors_are_taken_by_name_and_are_own_ones(self):
+        refusals = {node.name for place, node in each_part()
+                    if place.startswith("errors.py:") and isinstance(node, ast.ClassDef)}
+        for place, node in each_part():
+            if isinstance(node, ast.ExceptHandler):
+                self.assertIsInstance(node.type, ast.Name, place)
+                self.assertIn(node.type.id, refusals, place)
+
+    def test_sets_only_on_the_spot(self):
+        for place, node in each_part():
+            self.assertNotIsInstance(node, ast.Set, place)
+            if isinstance(node, ast.Assign) and isinstance(node.value, ast.Call):
+                self.assertNotIn(names_in(node.value.func)[:1], [["set"], ["frozenset"]], place)
+
     def test_no_two_files_draw_from_one_another(self):
         drawn = {}
         for path in source_files():
